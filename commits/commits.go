@@ -3,8 +3,10 @@ package commits
 
 import (
 	"commits/api"
+	"commits/coder"
 	"commits/codes"
 	"commits/machine"
+	"commits/program"
 )
 
 // Machine is a code that runs.
@@ -14,7 +16,13 @@ type Machine struct {
 }
 
 // Compile makes the code of a program (P7).
-func Compile(s string) (string, error) { return "", nil }
+func Compile(s string) (string, error) {
+	p, err := program.Read(s)
+	if err != nil {
+		return "", err
+	}
+	return coder.Code(p), nil
+}
 
 // Load makes the machine of a code (P3).
 func Load(code string) (*Machine, error) {

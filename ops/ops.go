@@ -32,6 +32,18 @@ func Named(word string) (Op, bool) {
 	return 0, false
 }
 
+// Word is what a code calls the operation.
+func (o Op) Word() string { return words[o] }
+
+// Signs has the operation that a program calls by each sign.
+func Signs() map[string]Op {
+	return map[string]Op{
+		"+": Add, "-": Sub, "*": Mul, "/": Div, "%": Mod,
+		"&": And, "|": Or, "^": Xor, "<<": Shl, ">>": Shr,
+		"<": Lt, "==": Eq,
+	}
+}
+
 // Of is what the operation makes of two values; false: they have none (a division by 0).
 func (o Op) Of(a, b int64) (int64, bool) {
 	switch o {

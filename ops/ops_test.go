@@ -44,3 +44,18 @@ func TestNone(t *testing.T) {
 		t.Error("an operation that is none makes something")
 	}
 }
+
+// TestWords: each operation has a sign and a word of its own, by which it is found.
+func TestWords(t *testing.T) {
+	want := map[string]string{"+": "add", "-": "sub", "*": "mul", "/": "div", "%": "mod", "&": "and", "|": "or", "^": "xor", "<<": "shl", ">>": "shr", "<": "lt", "==": "eq"}
+	signs := Signs()
+	if len(signs) != len(want) {
+		t.Errorf("%d signs", len(signs))
+	}
+	for sign, word := range want {
+		op, ok := signs[sign]
+		if named, there := Named(word); !ok || !there || op != named || op.Word() != word {
+			t.Errorf("%s: %d %v, %s: %d %v", sign, op, ok, word, named, there)
+		}
+	}
+}

@@ -51,7 +51,7 @@ func (l *Line) Fail(e api.Errno) { panic(stop{&api.Fault{Err: e, Line: l.number}
 
 // Word takes the next word.
 func (l *Line) Word() string {
-	if len(l.words) == 0 {
+	if !l.More() {
 		l.Fail(api.ErrSyntax)
 	}
 	word := l.words[0]
@@ -77,9 +77,12 @@ func (l *Line) Within(least, most int64) int64 {
 	return n
 }
 
+// More tells whether a word is left.
+func (l *Line) More() bool { return len(l.words) > 0 }
+
 // End sees to it that no word is left.
 func (l *Line) End() {
-	if len(l.words) > 0 {
+	if l.More() {
 		l.Fail(api.ErrSyntax)
 	}
 }

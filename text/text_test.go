@@ -62,6 +62,23 @@ func TestLines(t *testing.T) {
 	}
 }
 
+// TestMore: it tells whether Word has one more to take.
+func TestMore(t *testing.T) {
+	err := Read("a b\n", 20, func(l *Line) {
+		for _, word := range []string{"a", "b"} {
+			if !l.More() || l.Word() != word {
+				t.Errorf("%s is not there", word)
+			}
+		}
+		if l.More() {
+			t.Error("there is more")
+		}
+	})
+	if err != nil {
+		t.Error(err)
+	}
+}
+
 // TestOthers: a panic that is not of a line's making is not taken for a fault.
 func TestOthers(t *testing.T) {
 	mine := errors.New("mine")
