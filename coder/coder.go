@@ -88,7 +88,7 @@ func (c *coder) end() {
 	c.add("trap", strconv.Itoa(api.TrapIndex))
 }
 
-func (c *coder) local(name string) string { return "r" + strconv.Itoa(c.locals[name]) }
+func (c *coder) local(name string) string { return register(c.locals[name]) }
 
 func (c *coder) value(v program.Value) string {
 	if v.Name != "" {

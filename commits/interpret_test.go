@@ -173,8 +173,17 @@ func (d *doing) set(w []string) {
 		d.locals[w[1]] = a
 		return
 	}
-	b := d.value(w[4])
-	switch w[3] {
+	v, ok := operated(w[3], a, d.value(w[4]))
+	if !ok {
+		d.state = api.TrapZero
+		return
+	}
+	d.locals[w[1]] = v
+}
+
+// operated is what an operation makes of two values; false: there is nothing.
+func operated(sign string, a, b int64) (int64, bool) {
+	switch sign {
 	case "+":
 		a += b
 	case "-":
@@ -183,10 +192,9 @@ func (d *doing) set(w []string) {
 		a *= b
 	case "/", "%":
 		if b == 0 {
-			d.state = api.TrapZero
-			return
+			return 0, false
 		}
-		if w[3] == "/" {
+		if sign == "/" {
 			a /= b
 		} else {
 			a %= b
@@ -206,7 +214,7 @@ func (d *doing) set(w []string) {
 	case "==":
 		a = truth(a == b)
 	}
-	d.locals[w[1]] = a
+	return a, true
 }
 
 func truth(holds bool) int64 {

@@ -2,6 +2,7 @@ package commits_test
 
 import (
 	"math/rand"
+	"slices"
 	"strconv"
 	"strings"
 	"testing"
@@ -27,8 +28,8 @@ func randomCode(r *rand.Rand) string {
 			b.WriteString([]string{
 				"mov" + reg() + val(), "add" + reg() + val() + val(), "div" + reg() + val() + val(), "load" + reg() + val() + num(), "load" + reg() + num() + " 1",
 				"store" + val() + num() + val(), "store" + num() + " 1" + val(), "store 3 0" + val(), "store 2 0" + val(), "cas" + reg() + num() + " 1" + val() + val(), "xadd" + reg() + num() + " 1" + val(),
-				"fence", "out" + val(), "out" + reg(), "jz" + val() + " " + strconv.Itoa(r.Intn(16)),
-			}[r.Intn(15)] + ";")
+				"fence", "out" + val(), "out" + reg(), "jz" + val() + " " + strconv.Itoa(r.Intn(16)), "lt" + reg() + val() + val(), "eq" + reg() + val() + val(), "sub" + reg() + val() + val(),
+			}[r.Intn(18)] + ";")
 		}
 	}
 	return b.String()
@@ -43,119 +44,191 @@ func randomPicks(r *rand.Rand, n int) string {
 	return b.String()
 }
 
-// model does a code as the document tells it, straight from its words: against it the machine is held.
+// operand is a word of an instruction: a register's number or, if that is below 0, a number.
+type operand struct {
+	register int
+	number   int64
+}
+
+// modelIns is an instruction: its first word, and the others.
+type modelIns struct {
+	name  string
+	words []operand
+}
+
+// model does a code as the document tells it, straight from its words: against it the machine is held. A copy of it goes on by itself.
 type model struct {
-	ins     [2][][]string
-	regs    [2]map[string]int64
-	place   [2]int
-	waiting [2][][2]int64
+	ins     *[api.MaxThreads][]modelIns
+	regs    [api.MaxThreads][api.Regs]int64
+	place   [api.MaxThreads]int
+	stores  [api.MaxThreads][api.MaxStore][2]int64 // those that wait: address and value
+	threads int
 	seen
 }
 
+// newModel takes a code that has no fault.
 func newModel(code string) *model {
-	m := &model{}
-	for t, s := range strings.Split(strings.TrimPrefix(code, "thread;"), "thread;") {
-		m.regs[t] = map[string]int64{}
-		for _, line := range strings.Split(strings.TrimSuffix(s, ";"), ";") {
-			m.ins[t] = append(m.ins[t], strings.Fields(line))
-		}
+	m := &model{ins: &[api.MaxThreads][]modelIns{}}
+	for t := range m.state {
+		m.state[t] = api.Halted
 	}
-	m.state[2] = api.Halted
+	for _, line := range strings.Split(strings.TrimSuffix(code, "\n"), "\n") {
+		if line == "thread" {
+			m.state[m.threads] = api.Runs
+			m.threads++
+			continue
+		}
+		words := strings.Fields(line)
+		in := modelIns{name: words[0]}
+		for _, w := range words[1:] {
+			in.words = append(in.words, operandOf(w))
+		}
+		m.ins[m.threads-1] = append(m.ins[m.threads-1], in)
+	}
 	return m
 }
 
-func (m *model) value(t int, word string) int64 {
+func operandOf(word string) operand {
 	if word[0] == 'r' {
-		return m.regs[t][word]
+		return operand{register: int(word[1] - '0')}
 	}
-	n, _ := strconv.ParseInt(word, 10, 64)
-	return n
+	return operand{-1, number(word)}
+}
+
+func (m *model) value(t int, w operand) int64 {
+	if w.register >= 0 {
+		return m.regs[t][w.register]
+	}
+	return w.number
 }
 
 func (m *model) flush(t int) {
-	if len(m.waiting[t]) > 0 {
-		m.memory[m.waiting[t][0][0]] = m.waiting[t][0][1]
-		m.waiting[t] = m.waiting[t][1:]
+	if m.waiting[t] > 0 {
+		m.memory[m.stores[t][0][0]] = m.stores[t][0][1]
+		m.waiting[t]--
+		copy(m.stores[t][:], m.stores[t][1:])
+		m.stores[t][m.waiting[t]] = [2]int64{}
 	}
 }
 
 // cell is the address that two words make; false: there is none, and the thread is trapped.
-func (m *model) cell(t int, words []string) (int64, bool) {
+func (m *model) cell(t int, words []operand) (int64, bool) {
 	at := m.value(t, words[0]) + m.value(t, words[1])
 	if at < 0 || at > 255 {
-		m.state[t] = 9
+		m.state[t] = api.TrapAddress
 	}
-	return at, m.state[t] == 0
+	return at, m.state[t] == api.Runs
 }
 
 func (m *model) step(t int) {
-	if m.state[t] != 0 {
+	if m.state[t] != api.Runs {
 		return
 	}
 	if m.place[t] >= len(m.ins[t]) {
-		m.state[t] = 10
+		m.state[t] = api.Halted
 		return
 	}
-	w := m.ins[t][m.place[t]]
+	in := m.ins[t][m.place[t]]
 	m.place[t]++
-	if w[0] == "fence" || w[0] == "cas" || w[0] == "xadd" {
-		for len(m.waiting[t]) > 0 {
+	if in.name == "fence" || in.name == "cas" || in.name == "xadd" {
+		for m.waiting[t] > 0 {
 			m.flush(t)
 		}
 	}
-	m.do(t, w)
+	m.do(t, in.name, in.words)
 }
 
-func (m *model) do(t int, w []string) {
-	switch w[0] {
+func (m *model) do(t int, name string, w []operand) {
+	switch name {
+	case "fence":
 	case "mov":
-		m.regs[t][w[1]] = m.value(t, w[2])
-	case "add":
-		m.regs[t][w[1]] = m.value(t, w[2]) + m.value(t, w[3])
-	case "div":
-		if m.value(t, w[3]) == 0 {
-			m.state[t] = 1
+		m.regs[t][w[0].register] = m.value(t, w[1])
+	case "out":
+		m.out[t] = append(slices.Clip(m.out[t]), m.value(t, w[0]))
+	case "jmp":
+		m.place[t] = int(w[0].number)
+	case "jz":
+		if m.value(t, w[0]) == 0 {
+			m.place[t] = int(w[1].number)
+		}
+	case "trap":
+		m.state[t] = int(w[0].number)
+	case "halt":
+		m.state[t] = api.Halted
+	case "load", "store", "cas", "xadd":
+		m.access(t, name, w)
+	default:
+		v, ok := operated(sign(name), m.value(t, w[1]), m.value(t, w[2]))
+		if !ok {
+			m.state[t] = api.TrapZero
 			return
 		}
-		m.regs[t][w[1]] = m.value(t, w[2]) / m.value(t, w[3])
-	case "out":
-		m.out[t] = append(m.out[t], m.value(t, w[1]))
-	case "jz":
-		if m.value(t, w[1]) == 0 {
-			m.place[t] = int(m.value(t, w[2]))
-		}
-	case "load":
-		if at, ok := m.cell(t, w[2:]); ok {
-			v := m.memory[at]
-			for _, s := range m.waiting[t] {
-				if s[0] == at {
-					v = s[1]
-				}
-			}
-			m.regs[t][w[1]] = v
-		}
-	case "store":
-		if at, ok := m.cell(t, w[1:]); ok {
-			if len(m.waiting[t]) == 4 {
+		m.regs[t][w[0].register] = v
+	}
+}
+
+func (m *model) access(t int, name string, w []operand) {
+	if name == "store" {
+		if at, ok := m.cell(t, w); ok {
+			if m.waiting[t] == api.MaxStore {
 				m.flush(t)
 			}
-			m.waiting[t] = append(m.waiting[t], [2]int64{at, m.value(t, w[3])})
+			m.stores[t][m.waiting[t]] = [2]int64{at, m.value(t, w[2])}
+			m.waiting[t]++
+		}
+		return
+	}
+	at, ok := m.cell(t, w[1:])
+	if !ok {
+		return
+	}
+	had := m.memory[at]
+	switch name {
+	case "load":
+		for _, s := range m.stores[t][:m.waiting[t]] {
+			if s[0] == at {
+				had = s[1]
+			}
 		}
 	case "cas":
-		if at, ok := m.cell(t, w[2:]); ok {
-			var done int64
-			if m.memory[at] == m.value(t, w[4]) {
-				m.memory[at], done = m.value(t, w[5]), 1
-			}
-			m.regs[t][w[1]] = done
+		same := had == m.value(t, w[3])
+		if same {
+			m.memory[at] = m.value(t, w[4])
 		}
+		had = truth(same)
 	case "xadd":
-		if at, ok := m.cell(t, w[2:]); ok {
-			had := m.memory[at]
-			m.memory[at] += m.value(t, w[4])
-			m.regs[t][w[1]] = had
-		}
+		m.memory[at] += m.value(t, w[3])
 	}
+	m.regs[t][w[0].register] = had
+}
+
+// sign is how a program says what a code says by a word.
+func sign(name string) string {
+	switch name {
+	case "add":
+		return "+"
+	case "sub":
+		return "-"
+	case "mul":
+		return "*"
+	case "div":
+		return "/"
+	case "mod":
+		return "%"
+	case "and":
+		return "&"
+	case "or":
+		return "|"
+	case "xor":
+		return "^"
+	case "shl":
+		return "<<"
+	case "shr":
+		return ">>"
+	case "lt":
+		return "<"
+	}
+	return "=="
 }
 
 func (m *model) pick(p string) {
@@ -176,14 +249,11 @@ func TestModel(t *testing.T) {
 		if err != nil {
 			t.Fatalf("%q: %v", code, err)
 		}
-		want := newModel(code)
+		want := newModel(lines(code))
 		picks := randomPicks(r, 40)
 		for i := 0; i < len(picks); i += 2 {
 			pick(m, picks[i:i+2])
 			want.pick(picks[i : i+2])
-			for k := range 2 {
-				want.seen.waiting[k] = len(want.waiting[k])
-			}
 			if got := look(m); !got.same(want.seen) {
 				t.Fatalf("%q, %q: %v, want %v", code, picks[:i+2], got, want.seen)
 			}

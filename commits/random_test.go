@@ -18,10 +18,16 @@ type writer struct {
 }
 
 // randomProgram is a program of one to three threads, all of which speak of the same few cells.
-func randomProgram(r *rand.Rand) string {
+func randomProgram(r *rand.Rand) string { return faultless(r, (*writer).program) }
+
+// randomMeeting is a program of two or three threads that have few blocks, of the same few cells, and little else.
+func randomMeeting(r *rand.Rand) string { return faultless(r, (*writer).meeting) }
+
+// faultless writes until there is no fault.
+func faultless(r *rand.Rand, write func(*writer)) string {
 	for {
 		w := &writer{Rand: r}
-		w.program()
+		write(w)
 		s := w.b.String()
 		if e, _ := judge(s); e == api.OK {
 			return s
@@ -46,6 +52,24 @@ func (w *writer) program() {
 		w.line("thread")
 		w.locals, w.count = nil, 0
 		w.body(0, false)
+	}
+}
+
+func (w *writer) meeting() {
+	for _, line := range []string{"shared x", "shared y 2"}[w.Intn(2):] {
+		w.shared = append(w.shared, strings.Fields(line)[1])
+		w.line(line)
+	}
+	threads := 2 + w.Intn(2)
+	for range threads {
+		w.line("thread")
+		w.locals, w.count = nil, 0
+		for range 1 + w.Intn(4-threads) {
+			w.nest(0, true, "atomic")
+			if w.Intn(2) == 0 {
+				w.line("out", w.value())
+			}
+		}
 	}
 }
 

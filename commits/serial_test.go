@@ -70,7 +70,7 @@ func TestSerial(t *testing.T) {
 		{"thread;set a 1;set b 2;set c 3;set d 4;set a d;out a;out b;out c;out d;thread;set d 9;out d;", [][]int64{{4, 2, 3, 4}, {9}}, []int{10, 10}}, {"thread;set abcdef 5;set abcdef abcdef * abcdef;out abcdef;", [][]int64{{25}}, []int{10}}, {"shared end;thread;set at 1;set if 2;atomic;put end if;get at end at 0;end;out at;", [][]int64{{2}}, []int{10}}, {"thread;if 0;set a 1;end;out a;if 1;set a 2;end;out a;", [][]int64{{0, 2}}, []int{10}},
 		{"thread;set a 9 + 4;out a;set a 9 - 4;out a;set a 9 * 4;out a;set a 9 / 4;out a;set a 9 % 4;out a;", [][]int64{{13, 5, 36, 2, 1}}, []int{10}}, {"thread;set a 12 & 10;out a;set a 12 | 10;out a;set a 12 ^ 10;out a;set a 5 << 66;out a;set a -9 >> 1;out a;", [][]int64{{8, 14, 6, 20, -5}}, []int{10}}, {"thread;set a 3 < 4;out a;set a 4 < 4;out a;set a 4 == 4;out a;set a 4 == 3;out a;", [][]int64{{1, 0, 1, 0}}, []int{10}}, {"thread;set a " + most + " + 1;out a;set a " + least + " / -1;out a;set a " + least + " % -1;out a;set a " + most + " * " + most + ";out a;", [][]int64{{-1 << 63, -1 << 63, 0, 1}}, []int{10}},
 		{"thread;out 1;set a 1 / 0;out 2;thread;out 3;", [][]int64{{1}, {3}}, []int{1, 10}}, {"thread;set z 0;if 1;set z 1 % z;end;out 1;", [][]int64{nil}, []int{1}}, {"thread;set a 3;loop 4;out a;set a a - 1;set b 6 / a;out b;end;", [][]int64{{3, 3, 2, 6, 1}}, []int{1}}, {"thread;if 0;set a 1 / 0;end;out a;", [][]int64{{0}}, []int{10}},
-		{"thread;loop 1;out 1;end;loop 4;out 2;end;", [][]int64{{1, 2, 2, 2, 2}}, []int{10}}, {"thread;set a 0;loop 4;loop 4;loop 4;set a a + 1;end;end;end;out a;", [][]int64{{64}}, []int{10}}, {"thread;loop 2;out 0;loop 3;out 1;end;loop 1;out 2;loop 2;out 3;end;end;end;", [][]int64{{0, 1, 1, 1, 2, 3, 3, 0, 1, 1, 1, 2, 3, 3}}, []int{10}}, {"thread;set a -1;if a;out 1;set a 0;if a;out 2;end;out 3;end;if a;out 4;end;", [][]int64{{1, 3}}, []int{10}},
+		{"thread;loop 1;out 1;end;loop 4;out 2;end;", [][]int64{{1, 2, 2, 2, 2}}, []int{10}}, {"thread;set a 0;loop 4;loop 4;loop 4;set a a + 1;end;end;end;out a;", [][]int64{{64}}, []int{10}}, {"thread;set a 1;set b 2;set c 3;set d 4;loop 1;loop 3;atomic;set d d + 1;set c c + 1;out d;out c;end;end;end;", [][]int64{{5, 4, 6, 5, 7, 6}}, []int{10}}, {"thread;loop 2;out 0;loop 3;out 1;end;loop 1;out 2;loop 2;out 3;end;end;end;", [][]int64{{0, 1, 1, 1, 2, 3, 3, 0, 1, 1, 1, 2, 3, 3}}, []int{10}}, {"thread;set a -1;if a;out 1;set a 0;if a;out 2;end;out 3;end;if a;out 4;end;", [][]int64{{1, 3}}, []int{10}},
 		{"shared x;shared y 3;shared z 2;thread;atomic;put x 1;put y 2;put y 3 at 1;put y 4 at 2;put z 5;put z 6 at 1;end;thread;atomic;get a x;out a;get a y;out a;get a y at 1;out a;get a y at 2;out a;get a z at 0;out a;get a z at 1;out a;end;", [][]int64{nil, {1, 2, 3, 4, 5, 6}}, []int{10, 10}}, {"shared x 6;thread;set i 0;atomic;loop 4;put x i at i;set i i + 1;end;put x 9 at 5;end;thread;set i 5;atomic;loop 4;get v x at i;out v;set i i - 1;end;end;", [][]int64{nil, {9, 0, 3, 2}}, []int{10, 10}}, {"shared x 2;thread;set i 1;atomic;put x 7 at i;get i x at i;out i;end;atomic;get v x at 1;out v;get v x;out v;end;", [][]int64{{7, 7, 0}}, []int{10}},
 		{"shared x;thread;atomic;get v x;out v;put x 1;get v x;out v;if 0;put x 2;end;get v x;out v;end;atomic;get v x;out v;end;", [][]int64{{0, 1, 1, 1}}, []int{10}}, {"shared x;thread;loop 3;atomic;get v x;set v v + 1;put x v;out v;end;out 0;end;thread;loop 3;atomic;get v x;set v v * 2;put x v;out v;end;end;", [][]int64{{1, 0, 2, 0, 3, 0}, {6, 12, 24}}, []int{10, 10}}, {"shared x;shared y;thread;loop 2;atomic;get a x;if a;put y 7;end;put x 1;end;end;atomic;get b y;end;out b;", [][]int64{{7}}, []int{10}}, {"shared x;thread;set a 1;atomic;set a a + 1;out a;put x a;end;set a a + 1;out a;", [][]int64{{2, 3}}, []int{10}},
 		{"shared x;thread;atomic;out 1;out 2;out 3;out 4;out 5;out 6;out 7;out 8;end;atomic;out 9;end;", [][]int64{{1, 2, 3, 4, 5, 6, 7, 8, 9}}, []int{10}}, {"thread;set a 0;loop 3;atomic;loop 4;out a;set a a + 1;out a;end;end;end;", [][]int64{{0, 1, 1, 2, 2, 3, 3, 4, 4, 5, 5, 6, 6, 7, 7, 8, 8, 9, 9, 10, 10, 11, 11, 12}}, []int{10}},
@@ -141,11 +141,15 @@ func TestOutsBehind(t *testing.T) {
 
 // P8: a block knows nothing of what an earlier one of its thread has put: between them another thread's block may put there.
 func TestBlocksInTurn(t *testing.T) {
+	const twice = "set n 0;set w 1;loop 2;atomic;if w;"
 	for _, c := range []struct {
-		put, get string
-		last     int64
-	}{{"put x 5", "get v x", 7}, {"put x 5 at n", "get v x at 0", 7}, {"put x 5 at 1", "get v x at 1", 8}} {
-		m := made(t, lines("shared x 2;thread;set n 0;set w 1;loop 2;atomic;if w;"+c.put+";end;"+c.get+";out v;end;set w 0;end;thread;atomic;put x 7;put x 8 at 1;end;thread;atomic;"+c.get+";out v;end;"))
+		blocks string
+		outs   []int64
+	}{
+		{twice + "put x 5;end;get v x;out v;end;set w 0;end;", []int64{5, 7}}, {twice + "put x 5 at n;end;get v x at 0;out v;end;set w 0;end;", []int64{5, 7}}, {twice + "put x 5 at 1;end;get v x at 1;out v;end;set w 0;end;", []int64{5, 8}}, {twice + "put x 5;end;out w;end;set w 0;end;", []int64{1, 0}},
+		{"atomic;put x 5;out 1;end;atomic;get v x;out v;end;", []int64{1, 7}}, {"atomic;get v x;put x 5;out 1;end;atomic;get v x at 1;out v;end;", []int64{1, 8}}, {"atomic;put x 5;out 1;end;atomic;get v x;if 0;put x 6;end;out v;end;", []int64{1, 7}},
+	} {
+		m := made(t, lines("shared x 2;thread;"+c.blocks+"thread;atomic;put x 7;put x 8 at 1;end;thread;atomic;get v x;out v;get v x at 1;out v;end;"))
 		for m.State(0) == api.Runs && len(m.Out(0)) == 0 {
 			m.Step(0)
 			flushAll(m, 0)
@@ -153,8 +157,8 @@ func TestBlocksInTurn(t *testing.T) {
 		for _, k := range []int{1, 0, 2} {
 			alone(m, k)
 		}
-		if !slices.Equal(m.Out(0), []int64{5, c.last}) || !slices.Equal(m.Out(2), []int64{c.last}) {
-			t.Errorf("%q: %v, then %v", c.put, m.Out(0), m.Out(2))
+		if !slices.Equal(m.Out(0), c.outs) || !slices.Equal(m.Out(2), []int64{7, 8}) {
+			t.Errorf("%q: %v, then %v", c.blocks, m.Out(0), m.Out(2))
 		}
 	}
 }
@@ -231,6 +235,7 @@ func TestInterpreted(t *testing.T) {
 // P10, first point: wherever a thread stands, it comes to its end behind others that have ended.
 func TestGoingOn(t *testing.T) {
 	r := rand.New(rand.NewSource(4))
+	done := 0
 	for range 1000 {
 		s := randomProgram(r)
 		m := made(t, s)
@@ -240,19 +245,21 @@ func TestGoingOn(t *testing.T) {
 			m.Flush(r.Intn(threads))
 		}
 		last := r.Intn(threads)
-		for n := 0; n < 200000 && runs(m, threads, last); n++ {
-			k := r.Intn(threads)
-			m.Step(k)
-			m.Flush(k)
-		}
 		for k := range threads {
-			if k != last {
-				flushAll(m, k)
+			for n := 0; k != last && n < 5000 && m.State(k) == api.Runs; n++ {
+				m.Step(k)
 			}
+			flushAll(m, k)
 		}
-		if !alone(m, last) {
+		if runs(m, threads, last) {
+			continue
+		}
+		if done++; !alone(m, last) {
 			t.Fatalf("%q: thread %d does not come to its end", s, last)
 		}
+	}
+	if done < 800 {
+		t.Errorf("%d times the others came to their ends", done)
 	}
 }
 

@@ -80,7 +80,7 @@ func (r *reader) tooMuch() bool {
 			return true
 		}
 		for s := range All(t.Stmts) {
-			if block, ok := s.(*Atomic); ok && Outs(block.Stmts) > api.MaxOuts {
+			if block, ok := s.(*Atomic); ok && outs(block.Stmts) > api.MaxOuts {
 				return true
 			}
 		}

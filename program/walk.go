@@ -30,8 +30,8 @@ func within(s Stmt) []Stmt {
 	return nil
 }
 
-// Outs tells how often statements give out, if all that ifs have within is done.
-func Outs(stmts []Stmt) int {
+// outs tells how often statements give out, if all that ifs have within is done.
+func outs(stmts []Stmt) int {
 	return count(stmts, func(s Stmt) bool { _, ok := s.(Out); return ok })
 }
 
