@@ -141,6 +141,10 @@ func (x *explorer) visit(p *reached) {
 	if x.fault != "" || p.xadds > x.most || len(x.been) == x.room || x.beenAt(p) {
 		return
 	}
+	if len(x.picks) == 5000 {
+		x.fail(p, "something new comes without end")
+		return
+	}
 	for k := range p.threads {
 		x.goOn(p, k)
 	}
@@ -311,7 +315,7 @@ func TestEveryPick(t *testing.T) {
 	const count = "thread;atomic;get v c;set v v + 1;put c v;out v;end;"
 	for _, s := range []string{
 		"shared c;" + count + count + count, "shared c;thread;loop 2;atomic;get v c;set v v + 1;put c v;out v;end;end;" + count, "shared c;thread;set a 1;atomic;set a a * 2;out a;get v c;set v v + a;put c v;out v;end;out a;thread;set b 5;atomic;get v c;set b b + v;put c b;end;out b;",
-		"shared x;shared y;thread;set z 9;set a 1;atomic;get z x;set a a + 1;get b y;out a;end;out a;thread;atomic;put x 1;put y 1;end;", "shared x;shared y;thread;set z 9;set a 1;set b 2;atomic;out a;get a x;set b 3;get z y;put y b;out z;end;out a;thread;atomic;put x 1;put y 1;end;",
+		"shared x;shared y;thread;set z 9;set a 1;atomic;get z x;set a a + 1;get b y;out a;end;out a;thread;atomic;put x 1;put y 1;end;", "shared x;shared y;thread;set z 9;set a 1;set b 2;atomic;out a;out b;get a x;set b 3;get z y;put y b;out z;end;out a;thread;atomic;put x 1;put y 1;end;",
 		"shared x;shared y;thread;atomic;get v x;put y 1;out v;end;thread;atomic;get v y;put x 1;out v;end;",
 		"shared x;shared y;thread;atomic;get v x;set v v + 1;put x v;put y v;end;thread;atomic;get v x;get w y;set u v == w;set u 7 / u;out v;end;", "shared x;shared y;shared t 2;thread;loop 2;atomic;get v x;set v v + 1;put x v;put y v;end;end;thread;atomic;get v x;get w y;set v v - w;get v t at v;put t 3 at v;out v;end;", "shared x;shared t 2;thread;atomic;put x 1;put t 5 at 1;end;atomic;put x 0;put t 6;end;thread;atomic;get v x;get v t at v;out v;end;",
 		"shared x;shared y;thread;atomic;put x 1;put y 1;end;thread;atomic;put y 2;put x 2;end;thread;atomic;get v y;get w x;out v;out w;end;", "shared x;shared y;shared z;thread;atomic;put x 1;put y 1;end;atomic;put x 2;put y 2;end;atomic;put z 1;end;thread;atomic;get v y;get w x;out v;out w;end;thread;atomic;get v z;put x 9;out v;end;", "shared x;shared y;thread;atomic;put x 1;end;atomic;get v y;out v;end;thread;atomic;put y 1;end;atomic;get v x;out v;end;", "shared x;shared y;thread;atomic;put x 1;end;atomic;put y 1;end;thread;atomic;get v y;out v;end;atomic;get v x;out v;end;",

@@ -181,8 +181,14 @@ func TestNobodyWaits(t *testing.T) {
 
 // A block waits for nobody who puts other cells than it gets or puts, though it may have got them earlier, or might have: wherever that one stands.
 func TestOtherCells(t *testing.T) {
-	for _, blocks := range []string{"loop 2;atomic;get v t at i;put x v;out i;end;set i 0;end;", "atomic;get v t;get v t at 1;put x v;out 1;end;atomic;get v t;if v;get v t at 1;put t v at 1;end;put x 5;out v;end;", "atomic;put t 0 at i;put x 0;out 1;end;atomic;get v t;put t v;put x v;out v;end;"} {
-		s := lines("shared t 2;shared x;thread;set i 1;" + blocks + "thread;atomic;put t 5 at 1;end;")
+	for _, c := range []struct {
+		blocks, other string
+		outs          []int64
+	}{
+		{"set i 1;loop 2;atomic;get v t at i;put x v;out i;end;set i 0;end;", "put t 5 at 1", []int64{1, 0}}, {"set i 0;loop 2;atomic;get v t at i;put x v;out i;end;set i 1;end;", "put t 5", []int64{0, 1}}, {"atomic;get v t;get v t at 1;put x v;out 1;end;atomic;get v t;if v;get v t at 1;put t v at 1;end;put x 5;out v;end;", "put t 5 at 1", []int64{1, 0}},
+		{"atomic;put t 0 at 1;put x 0;out 1;end;atomic;get v t;put t v;put x v;out v;end;", "put t 5 at 1", []int64{1, 0}}, {"atomic;put t 0;put x 0;out 1;end;atomic;get v t at 1;put t v at 1;put x v;out v;end;", "put t 5", []int64{1, 0}},
+	} {
+		s := lines("shared t 2;shared x;thread;" + c.blocks + "thread;atomic;" + c.other + ";end;")
 		for place := range stepsOf(t, s, 1) {
 			m := made(t, s)
 			for n := 0; n < 1000 && len(m.Out(0)) == 0; n++ {
@@ -191,8 +197,8 @@ func TestOtherCells(t *testing.T) {
 			for range place {
 				m.Step(1)
 			}
-			if !alone(m, 0) || !slices.Equal(m.Out(0), []int64{1, 0}) {
-				t.Fatalf("%q: %v, state %d behind %d steps of the other", blocks, m.Out(0), m.State(0), place)
+			if !alone(m, 0) || !slices.Equal(m.Out(0), c.outs) {
+				t.Fatalf("%q: %v, state %d behind %d steps of the other", c.blocks, m.Out(0), m.State(0), place)
 			}
 		}
 	}
